@@ -1,0 +1,1 @@
+"""Codes that are good once, and tickets."""

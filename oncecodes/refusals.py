@@ -1,0 +1,7 @@
+"""The numbers by which calls are refused."""
+
+OUT_OF_RANGE = -2
+NO_HOLDER = -3
+NOT_NOW = -4
+NOT_GENUINE = -5
+NO_ROOM = -6
