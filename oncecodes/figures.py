@@ -19,6 +19,19 @@ def numbers_high_first(row, width):
     return [number_high_first(row[k:k + width]) for k in range(0, len(row), width)]
 
 
+def bytes_low_first(number, count):
+    """The number's lowest count bytes, the lowest of them first."""
+    return [(number >> (8 * k)) & 255 for k in range(count)]
+
+
+def number_low_first(row):
+    """The number whose bytes, the lowest first, are these."""
+    number = 0
+    for k, byte in enumerate(row):
+        number = number | (byte << (8 * k))
+    return number
+
+
 def power_of_ten(exponent):
     """A 1 with as many 0s behind it."""
     power = 1

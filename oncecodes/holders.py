@@ -1,9 +1,12 @@
 """One holder of a house, and what its codes do to it."""
 
 from oncecodes.codes import code_of, secret_states
+from oncecodes.refusals import NO_ROOM, NOT_NOW
 
 # 2^60: with a greater counter the holder takes no code any more.
 LAST_COUNTER = 0x1000000000000000
+CODES_AHEAD = 10
+PAIRS_AHEAD = 100
 # 2^31 - 1.
 LAST_FAILED = 0x7fffffff
 FAILURES_TO_LOCK = 5
@@ -26,7 +29,7 @@ class Holder:
     def good_counters(self, now):
         """The counters whose codes are good, the least first."""
         if self.step == 0:
-            return list(range(self.counter, self.counter + 10))
+            return list(range(self.counter, self.counter + CODES_AHEAD))
         count = now // self.step
         return list(range(max(count - 1, self.counter, 0), count + 2))
 
@@ -38,6 +41,27 @@ class Holder:
         for counter in self.good_counters(now):
             if code_of(states, counter, self.digits) == code:
                 return counter
+        return None
+
+    def matching_pair(self, codes):
+        """The least counter ahead whose code and whose follower's are these two, or None."""
+        if len(codes) != 2 * self.digits:
+            return None
+        states = secret_states(self.secret)
+        code = code_of(states, self.counter, self.digits)
+        for counter in range(self.counter, self.counter + PAIRS_AHEAD):
+            follower = code_of(states, counter + 1, self.digits)
+            if code + follower == codes:
+                return counter
+            code = follower
+        return None
+
+    def refusal(self, now):
+        """Why no code at all is taken now, or None."""
+        if now < self.until:
+            return NOT_NOW
+        if self.counter > LAST_COUNTER:
+            return NO_ROOM
         return None
 
     def succeed(self, counter):
@@ -52,11 +76,18 @@ class Holder:
         if self.failed >= FAILURES_TO_LOCK:
             self.until = now + LOCKED_FOR
 
-    def take_code(self, now, code):
-        """1 if the code was good, which it isn't again, and else 0."""
-        counter = self.matching_counter(now, code)
+    def settle(self, now, counter, used):
+        """1 if there is a counter: its code and those behind it, as many as were used, aren't good again; else 0."""
         if counter is None:
             self.fail(now)
             return 0
-        self.succeed(counter + 1)
+        self.succeed(counter + used)
         return 1
+
+    def take_code(self, now, code):
+        """1 if the code was good, which it isn't again, and else 0."""
+        return self.settle(now, self.matching_counter(now, code), 1)
+
+    def take_pair(self, now, codes):
+        """1 if the two codes were good, which they aren't again, and else 0."""
+        return self.settle(now, self.matching_pair(codes), 2)

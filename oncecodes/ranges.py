@@ -5,6 +5,10 @@ PLACES = 64
 LAST_TIME = 0x10000000000
 LAST_FIRST = 0x10000000000
 LAST_STEP = 3600
+LAST_SPAN = 0x100000
+# The last time and the last span together.
+LAST_END = 0x10000100000
+LAST_RIGHTS = 0xffffffff
 LAST_WHOLE = 0xffffffffffffffff
 
 
@@ -38,9 +42,19 @@ def are_digits(digits):
     return is_within(digits, 6, 8)
 
 
+def are_digit_bytes(row):
+    """Whether all of these, one at least, are digits."""
+    return min(row) >= 0x30 and max(row) <= 0x39
+
+
 def is_code(row):
     """Whether these bytes are digits, as many as a code can have."""
-    return are_digits(len(row)) and min(row) >= 0x30 and max(row) <= 0x39
+    return are_digits(len(row)) and are_digit_bytes(row)
+
+
+def are_two_codes(digits, row):
+    """Whether these bytes are digits, twice as many as a code with that many has."""
+    return are_digits(digits) and len(row) == 2 * digits and are_digit_bytes(row)
 
 
 def is_place(place):

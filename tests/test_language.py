@@ -220,6 +220,17 @@ class Walks(unittest.TestCase):
             if isinstance(node.func, ast.Attribute) and node.func.attr in ("items", "keys", "values"):
                 self.assertIn(node, walked, (name, node.lineno))
 
+    def test_sets_are_asked_on_the_spot(self):
+        asked = set()
+        for name, node in nodes(ast.Call):
+            if ast.unparse(node.func) in ("len", "sorted") and not node.keywords:
+                asked |= set(node.args)
+        for name, node in nodes(ast.Compare):
+            asked |= {node.left, *node.comparators}
+        for name, node in nodes(ast.Call):
+            if ast.unparse(node.func) in ("set", "frozenset"):
+                self.assertIn(node, asked, (name, node.lineno))
+
     def test_tables_are_not_changed(self):
         for name, tree in TREES.items():
             tops = set(top_names(tree))

@@ -2,16 +2,9 @@
 
 import unittest
 
-import model
-from calls import KEY, LATEST, SECRET, WIDEST
-from calls import ask_last, attempt, begin, drop, firsts, holder
+from calls import KEY, LATEST, SECRET, WIDEST, WRONG
+from calls import ask_last, attempt, begin, drop, firsts, holder, right
 from oncecodes.state import House
-
-WRONG = "000000"
-
-
-def right(counter, digits=6):
-    return bytes(model.code(SECRET, counter, digits))
 
 
 def tried(made, *tries):
